@@ -1,0 +1,143 @@
+package tests
+
+import (
+	"fmt"
+	"math"
+	"math/rand"
+	"reflect"
+	"strings"
+	"testing"
+
+	"loop.example/g01360/impl"
+)
+
+// spot keeps the tables of the tests short.
+func spot(x, y int8) impl.Spot { return impl.Spot{X: x, Y: y} }
+
+// paper builds a sheet from rows of words by hand, so that tests of other functions do not depend on ReadSheet.
+// It takes numbers beyond their limits as well.
+func paper(t testing.TB, rows ...string) impl.Sheet {
+	t.Helper()
+	s := impl.Sheet{High: int8(len(rows))}
+	for y, row := range rows {
+		words := strings.Fields(row)
+		s.Wide = int8(len(words))
+		for x, word := range words {
+			if word == "w" {
+				s.Wax[y] += 1 << x
+				continue
+			}
+			d := &s.Dye[y][x]
+			if n, err := fmt.Sscanf(word, "%d:%d,%d,%d", &s.Wet[y][x], &d[0], &d[1], &d[2]); n != 4 || err != nil {
+				t.Fatalf("paper: %q is no word of a sheet", word)
+			}
+		}
+	}
+	return s
+}
+
+// inked builds a sheet from rows of digits, each one the dye of a cell, with the inks in turn; "w" is wax.
+func inked(rows ...string) impl.Sheet {
+	s := impl.Sheet{Wide: int8(len(rows[0])), High: int8(len(rows))}
+	for y, row := range rows {
+		for x, c := range []byte(row) {
+			if c == 'w' {
+				s.Wax[y] += 1 << x
+			} else {
+				s.Dye[y][x][(x+y)%3] = int16(c - '0')
+			}
+		}
+	}
+	return s
+}
+
+// randomSheet returns a valid sheet; few of its numbers are at their limits, some of its cells are waxed.
+func randomSheet(r *rand.Rand) impl.Sheet {
+	s := impl.Sheet{Wide: int8(1 + r.Intn(impl.Side)), High: int8(1 + r.Intn(impl.Side))}
+	most := []int{1, 2, 9, 300, impl.MaxDye}[r.Intn(5)]
+	bare := r.Intn(4)
+	for y := 0; y < int(s.High); y++ {
+		for x := 0; x < int(s.Wide); x++ {
+			if r.Intn(7) == 0 {
+				s.Wax[y] += 1 << x
+				continue
+			}
+			s.Wet[y][x] = int16(oneOf(r, 0, 0, r.Intn(impl.MaxWet+1), impl.MaxWet))
+			for ink := range s.Dye[y][x] {
+				if r.Intn(4) >= bare {
+					s.Dye[y][x][ink] = int16(r.Intn(most + 1))
+				}
+			}
+		}
+	}
+	return s
+}
+
+// brokenSheet returns a sheet that is not valid, in one of the ways that the chapter names.
+func brokenSheet(r *rand.Rand) impl.Sheet {
+	s := randomSheet(r)
+	x, y := r.Intn(int(s.Wide)), r.Intn(int(s.High))
+	switch r.Intn(6) {
+	case 0:
+		s.Wide = int8(oneOf(r, 0, -1, 9, 127, -128))
+	case 1:
+		s.High = int8(oneOf(r, 0, -1, 9, 127, -128))
+	case 2:
+		s.Wet[y][x] = int16(oneOf(r, -1, impl.MaxWet+1, math.MaxInt16, math.MinInt16))
+	case 3:
+		s.Dye[y][x][r.Intn(3)] = int16(oneOf(r, -1, impl.MaxDye+1, math.MaxInt16, math.MinInt16))
+	case 4:
+		s.Wet[y][x], s.Wax[y] = 1, s.Wax[y]|1<<x
+	case 5:
+		s.Dye[y][x][r.Intn(3)], s.Wax[y] = 1, s.Wax[y]|1<<x
+	}
+	return s
+}
+
+func oneOf(r *rand.Rand, list ...int) int { return list[r.Intn(len(list))] }
+
+// places returns the spots of all cells of a sheet, ordered.
+func places(s impl.Sheet) []impl.Spot {
+	var list []impl.Spot
+	for y := int8(0); y < s.High; y++ {
+		for x := int8(0); x < s.Wide; x++ {
+			list = append(list, spot(x, y))
+		}
+	}
+	return list
+}
+
+func waxedAt(s impl.Sheet, at impl.Spot) bool { return s.Wax[at.Y]&(1<<at.X) != 0 }
+
+func darkOf(s impl.Sheet, at impl.Spot) int64 {
+	d := s.Dye[at.Y][at.X]
+	return int64(d[0]) + int64(d[1]) + int64(d[2])
+}
+
+func totals(s impl.Sheet) (dye [3]int64, water int64) {
+	for y := range s.Wet {
+		for x := range s.Wet[y] {
+			water += int64(s.Wet[y][x])
+			for ink := range dye {
+				dye[ink] += int64(s.Dye[y][x][ink])
+			}
+		}
+	}
+	return dye, water
+}
+
+// same fails the test if two lists of results differ; nil slices and empty ones are alike.
+func same(t *testing.T, name string, got, want []any) {
+	t.Helper()
+	if g, w := fmt.Sprintf("%v", got), fmt.Sprintf("%v", want); g != w {
+		t.Errorf("%s: got %s, want %s", name, g, w)
+	}
+}
+
+func list(v ...any) []any { return v }
+
+// empty reports whether a result is its zero value, or a slice without elements.
+func empty(v any) bool {
+	r := reflect.ValueOf(v)
+	return !r.IsValid() || r.IsZero() || r.Kind() == reflect.Slice && r.Len() == 0
+}
