@@ -56,6 +56,7 @@ var (
 	errState    = errors.New("state")
 	errSyntax   = errors.New("syntax")
 	errNotFound = errors.New("notfound")
+	errBudget   = errors.New("budget")
 )
 
 var codeNames = [...]string{
@@ -102,6 +103,8 @@ func codeOf(err error) int64 {
 		return ErrState
 	case errors.Is(err, errSyntax):
 		return ErrSyntax
+	case errors.Is(err, errBudget):
+		return ErrBudget
 	}
 	return ErrNotFound
 }
@@ -119,14 +122,14 @@ func cells(wide, high int8) iter.Seq[Spot] {
 	}
 }
 
-// sides returns the four spots that share a side with a spot; some may be no cells.
-func sides(at Spot) [4]Spot {
-	return [4]Spot{
-		{X: at.X, Y: at.Y - 1},
-		{X: at.X + 1, Y: at.Y},
-		{X: at.X, Y: at.Y + 1},
-		{X: at.X - 1, Y: at.Y},
-	}
+func (at Spot) north() Spot { return Spot{X: at.X, Y: at.Y - 1} }
+func (at Spot) east() Spot  { return Spot{X: at.X + 1, Y: at.Y} }
+func (at Spot) south() Spot { return Spot{X: at.X, Y: at.Y + 1} }
+func (at Spot) west() Spot  { return Spot{X: at.X - 1, Y: at.Y} }
+
+// sides returns the ways to the four spots that share a side with a spot; some may be no cells.
+func sides() [4]func(Spot) Spot {
+	return [4]func(Spot) Spot{Spot.north, Spot.east, Spot.south, Spot.west}
 }
 
 // has reports whether a spot is a cell of the sheet.
@@ -254,12 +257,19 @@ func checkWax(s Sheet, at Spot) error {
 	return nil
 }
 
-func checkDrop(s Sheet, at Spot, ink, amount, water int64) error {
+func checkAmounts(s Sheet, at Spot, ink, amount, water int64) error {
 	if err := checkInk(s, at, ink); err != nil {
 		return err
 	}
 	if amount < 0 || amount > MaxDye || water < 0 || water > MaxWet {
 		return errRange
+	}
+	return nil
+}
+
+func checkDrop(s Sheet, at Spot, ink, amount, water int64) error {
+	if err := checkAmounts(s, at, ink, amount, water); err != nil {
+		return err
 	}
 	if s.waxed(at) {
 		return errState
@@ -369,13 +379,32 @@ func DyedCells(s Sheet, least int64) ([]Spot, int64) {
 }
 
 func (s Sheet) darkCells(least int64) []Spot {
-	var dark []Spot
+	return s.chosen(func(at Spot) bool { return darkness(s.Dye[at.Y][at.X]) >= least })
+}
+
+// chosen returns the cells that fit, ordered.
+func (s Sheet) chosen(fits func(at Spot) bool) []Spot {
+	var list []Spot
 	for at := range cells(s.Wide, s.High) {
-		if darkness(s.Dye[at.Y][at.X]) >= least {
-			dark = append(dark, at)
+		if fits(at) {
+			list = append(list, at)
 		}
 	}
-	return dark
+	return list
+}
+
+// first returns the first cell with the greatest number, and this; errNotFound if none is greater than 0.
+func (s Sheet) first(number func(at Spot) int64) (Spot, int64, error) {
+	found, most := Spot{}, int64(0)
+	for at := range cells(s.Wide, s.High) {
+		if n := number(at); n > most {
+			found, most = at, n
+		}
+	}
+	if most == 0 {
+		return Spot{}, 0, errNotFound
+	}
+	return found, most, nil
 }
 
 // DarkestCell returns the darkest cell.
@@ -383,16 +412,8 @@ func DarkestCell(s Sheet) (Spot, int64, int64) {
 	if err := checkSheet(s); err != nil {
 		return Spot{}, 0, codeOf(err)
 	}
-	darkest, most := Spot{}, int64(0)
-	for at := range cells(s.Wide, s.High) {
-		if dark := darkness(s.Dye[at.Y][at.X]); dark > most {
-			darkest, most = at, dark
-		}
-	}
-	if most == 0 {
-		return Spot{}, 0, ErrNotFound
-	}
-	return darkest, most, OK
+	at, dark, err := s.first(func(at Spot) int64 { return darkness(s.Dye[at.Y][at.X]) })
+	return at, dark, codeOf(err)
 }
 
 // BlotAt returns the blot of a cell.
@@ -415,8 +436,9 @@ func (s Sheet) blotOnly(at Spot, least int64) Sheet {
 			continue
 		}
 		blot.Dye[next.Y][next.X] = s.Dye[next.Y][next.X]
-		around := sides(next)
-		open = append(open, around[:]...)
+		for _, side := range sides() {
+			open = append(open, side(next))
+		}
 	}
 	return blot
 }
@@ -426,6 +448,10 @@ func BlotsOf(s Sheet, least int64) ([][]Spot, int64) {
 	if err := checkLeast(s, least); err != nil {
 		return nil, codeOf(err)
 	}
+	return s.blots(least), OK
+}
+
+func (s Sheet) blots(least int64) [][]Spot {
 	var blots [][]Spot
 	known := map[Sheet]bool{}
 	for _, at := range s.darkCells(least) {
@@ -435,7 +461,7 @@ func BlotsOf(s Sheet, least int64) ([][]Spot, int64) {
 			blots = append(blots, blot.darkCells(1))
 		}
 	}
-	return blots, OK
+	return blots
 }
 
 // colourOf returns the colour that dyes make together.
@@ -595,27 +621,36 @@ func ReadSheet(text string) (Sheet, int64) {
 
 // readRows reads the lines of a sheet; the numbers may still be beyond their limits.
 func readRows(text string) (Sheet, error) {
-	body, ended := strings.CutSuffix(text, "\n")
-	rows := strings.SplitN(body, "\n", Side+1)
-	if !ended || len(rows) > Side {
-		return Sheet{}, errSyntax
+	rows, err := wordsOf(text)
+	if err != nil {
+		return Sheet{}, err
 	}
-	s := Sheet{High: int8(len(rows))}
-	for y, row := range rows {
-		words := strings.SplitN(row, " ", Side+1)
-		if y == 0 {
-			s.Wide = int8(len(words))
-		}
-		if len(words) > Side || len(words) != int(s.Wide) {
-			return Sheet{}, errSyntax
-		}
-		for x, word := range words {
-			if err := s.readWord(Spot{X: int8(x), Y: int8(y)}, word); err != nil {
-				return Sheet{}, err
-			}
+	s := Sheet{Wide: int8(len(rows[0])), High: int8(len(rows))}
+	for at := range cells(s.Wide, s.High) {
+		if err := s.readWord(at, rows[at.Y][at.X]); err != nil {
+			return Sheet{}, err
 		}
 	}
 	return s, nil
+}
+
+// wordsOf returns the words of the lines of a text: 1 to Side lines, and as many words in each one.
+func wordsOf(text string) ([][]string, error) {
+	body, ended := strings.CutSuffix(text, "\n")
+	lines := strings.SplitN(body, "\n", Side+1)
+	if !ended || len(lines) > Side {
+		return nil, errSyntax
+	}
+	var rows [][]string
+	for _, line := range lines {
+		rows = append(rows, strings.SplitN(line, " ", Side+1))
+	}
+	for _, row := range rows {
+		if len(row) > Side || len(row) != len(rows[0]) {
+			return nil, errSyntax
+		}
+	}
+	return rows, nil
 }
 
 // readWord sets a cell to what its word tells.

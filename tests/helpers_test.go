@@ -94,6 +94,53 @@ func brokenSheet(r *rand.Rand) impl.Sheet {
 	return s
 }
 
+// waxOf returns a sheet with the wax of s alone.
+func waxOf(s impl.Sheet) impl.Sheet { return impl.Sheet{Wide: s.Wide, High: s.High, Wax: s.Wax} }
+
+// pools builds a sheet from rows of words, each one the water of a cell; "w" is wax.
+func pools(t testing.TB, rows ...string) impl.Sheet {
+	t.Helper()
+	var full []string
+	for _, row := range rows {
+		words := strings.Fields(row)
+		for i, word := range words {
+			if word != "w" {
+				words[i] = word + ":0,0,0"
+			}
+		}
+		full = append(full, strings.Join(words, " "))
+	}
+	return paper(t, full...)
+}
+
+// waters returns the water of a sheet as pools takes it, a row behind the other.
+func waters(s impl.Sheet) string {
+	var words []string
+	for _, at := range places(s) {
+		word := fmt.Sprint(s.Wet[at.Y][at.X])
+		if waxedAt(s, at) {
+			word = "w"
+		}
+		words = append(words, word)
+	}
+	return strings.Join(words, " ")
+}
+
+// besides returns the neighbours of a cell by hand, in their order.
+func besides(s impl.Sheet, at impl.Spot) []impl.Spot {
+	var list []impl.Spot
+	for _, step := range [][2]int{{0, -1}, {1, 0}, {0, 1}, {-1, 0}} {
+		x, y := int(at.X)+step[0], int(at.Y)+step[1]
+		if x < 0 || y < 0 || x >= int(s.Wide) || y >= int(s.High) {
+			continue
+		}
+		if next := spot(int8(x), int8(y)); !waxedAt(s, next) {
+			list = append(list, next)
+		}
+	}
+	return list
+}
+
 func oneOf(r *rand.Rand, list ...int) int { return list[r.Intn(len(list))] }
 
 // places returns the spots of all cells of a sheet, ordered.
