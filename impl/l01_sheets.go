@@ -164,6 +164,15 @@ func darkness(dyes [Inks]int16) int64 {
 	return sum
 }
 
+// gaps returns the sizes by which the dyes of two cells differ.
+func gaps(dyes, others [Inks]int16) [Inks]int16 {
+	var sizes [Inks]int16
+	for ink := range sizes {
+		sizes[ink] = max(dyes[ink], others[ink]) - min(dyes[ink], others[ink])
+	}
+	return sizes
+}
+
 // ValidSheet reports whether s is valid.
 func ValidSheet(s Sheet) bool {
 	if s.Wide < 1 || s.Wide > Side || s.High < 1 || s.High > Side {
@@ -523,10 +532,7 @@ func DifferBy(a, b Sheet) (int64, int64) {
 	}
 	sum := int64(0)
 	for at := range cells(a.Wide, a.High) {
-		for ink, dye := range a.Dye[at.Y][at.X] {
-			other := b.Dye[at.Y][at.X][ink]
-			sum += int64(max(dye, other) - min(dye, other))
-		}
+		sum += darkness(gaps(a.Dye[at.Y][at.X], b.Dye[at.Y][at.X]))
 	}
 	return sum, OK
 }
@@ -558,10 +564,11 @@ func MirrorSheet(s Sheet) (Sheet, int64) {
 	if err := checkSheet(s); err != nil {
 		return Sheet{}, codeOf(err)
 	}
-	return s.arranged(s.Wide, s.High, func(at Spot) Spot {
-		return Spot{X: s.Wide - 1 - at.X, Y: at.Y}
-	}), OK
+	return s.arranged(s.Wide, s.High, s.mirrored), OK
 }
+
+// mirrored returns the cell as far from the other end of the row.
+func (s Sheet) mirrored(at Spot) Spot { return Spot{X: s.Wide - 1 - at.X, Y: at.Y} }
 
 // TurnSheet turns a sheet by a quarter.
 func TurnSheet(s Sheet) (Sheet, int64) {
@@ -686,4 +693,13 @@ func readNumber(text string) (int16, error) {
 		return 0, errSyntax
 	}
 	return int16(number), nil
+}
+
+// readWithin reads a number that has limits.
+func readWithin(text string, least, most int16) (int16, error) {
+	number, err := readNumber(text)
+	if err != nil || number < least || number > most {
+		return 0, errSyntax
+	}
+	return number, nil
 }

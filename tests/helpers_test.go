@@ -73,6 +73,15 @@ func randomSheet(r *rand.Rand) impl.Sheet {
 	return s
 }
 
+// likeSized returns a valid sheet with the size of another one.
+func likeSized(r *rand.Rand, s impl.Sheet) impl.Sheet {
+	for {
+		if b := randomSheet(r); b.Wide == s.Wide && b.High == s.High {
+			return b
+		}
+	}
+}
+
 // brokenSheet returns a sheet that is not valid, in one of the ways that the chapter names.
 func brokenSheet(r *rand.Rand) impl.Sheet {
 	s := randomSheet(r)

@@ -22,6 +22,10 @@ type input struct {
 	on                      bool
 	text, ringsText         string
 	rings                   impl.Rings
+	fold                    impl.Fold
+	folds                   []impl.Fold
+	press, times, off       int64
+	foldsText               string
 }
 
 type call struct {
@@ -30,10 +34,10 @@ type call struct {
 }
 
 // codedCalls has all functions that return a code, which is their last result.
-func codedCalls() []call { return slices.Concat(sheetCalls, runningCalls) }
+func codedCalls() []call { return slices.Concat(sheetCalls, runningCalls, foldingCalls) }
 
 // plainCalls has all other functions.
-func plainCalls() []call { return slices.Concat(plainSheetCalls, plainRunningCalls) }
+func plainCalls() []call { return slices.Concat(plainSheetCalls, plainRunningCalls, plainFoldingCalls) }
 
 // wild holds numbers far beyond all limits, and those whose sums with others would overflow.
 var wild = []int64{-1, math.MaxInt64, math.MinInt64, math.MaxInt64 - 3, 1 << 32, 1 << 16, 1 << 8, 256 + 1, -(1 << 32) + 1}
@@ -75,7 +79,7 @@ func spoilt(r *rand.Rand, whole string) string {
 		i := r.Intn(len(text))
 		switch r.Intn(3) {
 		case 0:
-			text[i] = "0123456789:, \nw-+x"[r.Intn(18)]
+			text[i] = "0123456789:, \nw-+xvh/"[r.Intn(21)]
 		case 1:
 			text = append(text[:i], text[i+1:]...)
 		case 2:
@@ -105,6 +109,9 @@ func someInput(r *rand.Rand) input {
 	in.wide, in.high = someNumber(r, 1, 8), someNumber(r, 1, 8)
 	in.rounds = someNumber(r, 0, impl.MaxRounds)
 	in.rings, in.ringsText = someRings(r, in.a), someRingsText(r, in.a)
+	in.fold, in.folds, in.foldsText = someFold(r, in.a), someFolds(r, in.a), spoilt(r, handFolds(someFolds(r, in.a))+"v")
+	in.press, in.times = someNumber(r, 1, impl.MaxPress), someNumber(r, 0, impl.MaxFolds)
+	in.off = someNumber(r, 0, int64(oneOf(r, 3, 30, 300, 3000)))
 	return in
 }
 
@@ -134,6 +141,16 @@ func scribble(out []any) {
 			for i := range l {
 				scribble(list(l[i]))
 				l[i] = nil
+			}
+		case [][2]impl.Spot:
+			l = l[:cap(l)]
+			for i := range l {
+				l[i] = [2]impl.Spot{spot(-7, -7), spot(-7, -7)}
+			}
+		case []impl.Fold:
+			l = l[:cap(l)]
+			for i := range l {
+				l[i] = impl.Fold{Axis: -7, Press: -7}
 			}
 		}
 	}
@@ -168,8 +185,13 @@ func TestP1ArgumentsStayAsTheyAre(t *testing.T) {
 		in := someInput(r)
 		kept := in
 		kept.text = strings.Clone(in.text)
-		for _, c := range codedCalls() {
+		// The room behind a slice belongs to the caller as well.
+		in.folds, kept.folds = in.folds[:cap(in.folds)], slices.Clone(in.folds[:cap(in.folds)])
+		short := in
+		short.folds = in.folds[:len(in.folds)/2]
+		for _, c := range slices.Concat(codedCalls(), plainCalls()) {
 			c.run(in)
+			c.run(short)
 		}
 		if !reflect.DeepEqual(in, kept) {
 			t.Fatal("a call changed its arguments")
@@ -209,7 +231,7 @@ func TestP1InvalidSheetsComeFirst(t *testing.T) {
 		in := someInput(r)
 		in.a, in.b = brokenSheet(r), randomSheet(r)
 		for _, c := range codedCalls() {
-			if c.name == "PlainSheet" || c.name == "ReadSheet" { // they take no sheet
+			if c.name == "PlainSheet" || c.name == "ReadSheet" || c.name == "ReadFolds" { // they take no sheet
 				continue
 			}
 			if out := c.run(in); out[len(out)-1] != any(int64(impl.ErrInvalid)) {
@@ -219,9 +241,10 @@ func TestP1InvalidSheetsComeFirst(t *testing.T) {
 		if impl.SheetText(in.a) != "" || impl.RingsText(in.a, in.rings) != "" {
 			t.Fatalf("there is a text for a sheet that is not valid: %+v", in.a)
 		}
-		if _, c := impl.DifferBy(in.b, in.a); c != impl.ErrInvalid {
-			t.Fatalf("DifferBy: got %d for a second sheet that is not valid", c)
-		}
+		_, c1 := impl.DifferBy(in.b, in.a)
+		_, _, _, c2 := impl.BlotOnto(in.b, in.a, in.press)
+		_, _, _, c3 := impl.BlotRounds(in.b, in.a, in.press, in.times)
+		same(t, "second sheet", list(c1, c2, c3), list(1, 1, 1))
 	}
 }
 
@@ -231,9 +254,11 @@ func TestP1ResultsAreNotSheetsThatAreInvalid(t *testing.T) {
 		in := someInput(r)
 		for _, c := range codedCalls() {
 			out := c.run(in)
-			s, ok := out[0].(impl.Sheet)
-			if ok && out[len(out)-1] == any(int64(impl.OK)) && !impl.ValidSheet(s) {
-				t.Fatalf("%s returned a sheet that is not valid: %+v", c.name, s)
+			for _, v := range out {
+				s, ok := v.(impl.Sheet)
+				if ok && out[len(out)-1] == any(int64(impl.OK)) && !impl.ValidSheet(s) {
+					t.Fatalf("%s returned a sheet that is not valid: %+v", c.name, s)
+				}
 			}
 		}
 	}

@@ -256,3 +256,22 @@ func TestP2DifferBy(t *testing.T) {
 	sums, code := impl.DyeIn(full)
 	same(t, "sums", list(sums, code), list([3]int{64000, 64000, 64000}, 0))
 }
+
+func TestP2DifferByOfManySheets(t *testing.T) {
+	r := rand.New(rand.NewSource(21))
+	for range 300 {
+		a := randomSheet(r)
+		b, want := likeSized(r, a), int64(0)
+		for y := range 8 {
+			for x := range 8 {
+				for ink := range 3 {
+					more := int64(a.Dye[y][x][ink]) - int64(b.Dye[y][x][ink])
+					want += max(more, -more)
+				}
+			}
+		}
+		sum, c1 := impl.DifferBy(a, b)
+		other, c2 := impl.DifferBy(b, a)
+		same(t, "random sheets", list(sum, c1, other, c2), list(want, 0, want, 0))
+	}
+}
