@@ -135,6 +135,80 @@ func waters(s impl.Sheet) string {
 	return strings.Join(words, " ")
 }
 
+// brush keeps the tables of the tests short: a share, water, and the dyes of the first inks.
+func brush(share, water int, dyes ...int) impl.Brush {
+	b := impl.Brush{Share: int8(share), Water: int16(water)}
+	for ink, dye := range dyes {
+		b.Dye[ink] = int16(dye)
+	}
+	return b
+}
+
+// randomBrush returns a valid brush; some are full, some have no load, and some nothing at all.
+func randomBrush(r *rand.Rand) impl.Brush {
+	b := brush(oneOf(r, 1, impl.MostShare, 1+r.Intn(impl.MostShare)), oneOf(r, 0, r.Intn(20), r.Intn(impl.MaxWet+1), impl.MaxWet))
+	room := oneOf(r, 0, 3, 40, impl.MaxLoad, impl.MaxLoad)
+	for _, ink := range r.Perm(3) {
+		dye := oneOf(r, 0, r.Intn(room+1), room)
+		b.Dye[ink] = int16(dye)
+		room -= dye
+	}
+	return b
+}
+
+// brokenBrush returns a brush that is not valid, in one of the ways that the chapter names.
+func brokenBrush(r *rand.Rand) impl.Brush {
+	b := randomBrush(r)
+	switch r.Intn(4) {
+	case 0:
+		b.Dye[r.Intn(3)] = int16(oneOf(r, -1, impl.MaxLoad+1, math.MaxInt16, math.MinInt16))
+	case 1:
+		b.Dye = [3]int16{300, 301, 300}
+	case 2:
+		b.Water = int16(oneOf(r, -1, impl.MaxWet+1, math.MaxInt16, math.MinInt16))
+	case 3:
+		b.Share = int8(oneOf(r, 0, -1, impl.MostShare+1, math.MaxInt8, math.MinInt8))
+	}
+	return b
+}
+
+// walk builds the path with a text by hand, so that tests of other functions do not depend on ReadPath.
+// It goes beyond sheets as well, and stands still at a dot.
+func walk(x, y int8, letters string) []impl.Spot {
+	path := []impl.Spot{spot(x, y)}
+	for _, letter := range letters {
+		switch letter {
+		case 'n':
+			y--
+		case 'e':
+			x++
+		case 's':
+			y++
+		case 'w':
+			x--
+		}
+		path = append(path, spot(x, y))
+	}
+	return path
+}
+
+// randomPath returns a valid path of a sheet, most of which are short; waxed cells may be on it.
+func randomPath(r *rand.Rand, s impl.Sheet) []impl.Spot {
+	bare := impl.Sheet{Wide: s.Wide, High: s.High}
+	cells := places(s)
+	at := cells[r.Intn(len(cells))]
+	path := []impl.Spot{at}
+	for range oneOf(r, r.Intn(6), r.Intn(impl.MaxPath), impl.MaxPath-1) {
+		next := besides(bare, at)
+		if len(next) == 0 {
+			break
+		}
+		at = next[r.Intn(len(next))]
+		path = append(path, at)
+	}
+	return path
+}
+
 // besides returns the neighbours of a cell by hand, in their order.
 func besides(s impl.Sheet, at impl.Spot) []impl.Spot {
 	var list []impl.Spot

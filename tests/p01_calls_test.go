@@ -26,6 +26,10 @@ type input struct {
 	folds                   []impl.Fold
 	press, times, off       int64
 	foldsText               string
+	brush, other            impl.Brush
+	path                    []impl.Spot
+	load, part              int64
+	pathText                string
 }
 
 type call struct {
@@ -34,10 +38,12 @@ type call struct {
 }
 
 // codedCalls has all functions that return a code, which is their last result.
-func codedCalls() []call { return slices.Concat(sheetCalls, runningCalls, foldingCalls) }
+func codedCalls() []call { return slices.Concat(sheetCalls, runningCalls, foldingCalls, strokeCalls) }
 
 // plainCalls has all other functions.
-func plainCalls() []call { return slices.Concat(plainSheetCalls, plainRunningCalls, plainFoldingCalls) }
+func plainCalls() []call {
+	return slices.Concat(plainSheetCalls, plainRunningCalls, plainFoldingCalls, plainStrokeCalls)
+}
 
 // wild holds numbers far beyond all limits, and those whose sums with others would overflow.
 var wild = []int64{-1, math.MaxInt64, math.MinInt64, math.MaxInt64 - 3, 1 << 32, 1 << 16, 1 << 8, 256 + 1, -(1 << 32) + 1}
@@ -79,7 +85,7 @@ func spoilt(r *rand.Rand, whole string) string {
 		i := r.Intn(len(text))
 		switch r.Intn(3) {
 		case 0:
-			text[i] = "0123456789:, \nw-+xvh/"[r.Intn(21)]
+			text[i] = "0123456789:, \nw-+xvh/nes"[r.Intn(24)]
 		case 1:
 			text = append(text[:i], text[i+1:]...)
 		case 2:
@@ -112,6 +118,9 @@ func someInput(r *rand.Rand) input {
 	in.fold, in.folds, in.foldsText = someFold(r, in.a), someFolds(r, in.a), spoilt(r, handFolds(someFolds(r, in.a))+"v")
 	in.press, in.times = someNumber(r, 1, impl.MaxPress), someNumber(r, 0, impl.MaxFolds)
 	in.off = someNumber(r, 0, int64(oneOf(r, 3, 30, 300, 3000)))
+	in.brush, in.other = someBrush(r), someBrush(r)
+	in.path, in.pathText = somePath(r, in.a), spoilt(r, handPath(somePath(r, in.a))+" ")
+	in.load, in.part = someNumber(r, 0, impl.MaxLoad), someNumber(r, 0, 16)
 	return in
 }
 
@@ -152,6 +161,11 @@ func scribble(out []any) {
 			for i := range l {
 				l[i] = impl.Fold{Axis: -7, Press: -7}
 			}
+		case []int64:
+			l = l[:cap(l)]
+			for i := range l {
+				l[i] = -7
+			}
 		}
 	}
 }
@@ -187,8 +201,9 @@ func TestP1ArgumentsStayAsTheyAre(t *testing.T) {
 		kept.text = strings.Clone(in.text)
 		// The room behind a slice belongs to the caller as well.
 		in.folds, kept.folds = in.folds[:cap(in.folds)], slices.Clone(in.folds[:cap(in.folds)])
+		in.path, kept.path = in.path[:cap(in.path)], slices.Clone(in.path[:cap(in.path)])
 		short := in
-		short.folds = in.folds[:len(in.folds)/2]
+		short.folds, short.path = in.folds[:len(in.folds)/2], in.path[:len(in.path)/2]
 		for _, c := range slices.Concat(codedCalls(), plainCalls()) {
 			c.run(in)
 			c.run(short)
@@ -225,13 +240,16 @@ func TestP1ErrorsHaveNothingBesides(t *testing.T) {
 	}
 }
 
+// withoutSheet has the functions with a code that take no sheet.
+var withoutSheet = []string{"PlainSheet", "ReadSheet", "ReadFolds", "DipBrush", "MixBrushes", "RinseBrush", "ReadPath"}
+
 func TestP1InvalidSheetsComeFirst(t *testing.T) {
 	r := rand.New(rand.NewSource(4))
 	for range 3000 {
 		in := someInput(r)
 		in.a, in.b = brokenSheet(r), randomSheet(r)
 		for _, c := range codedCalls() {
-			if c.name == "PlainSheet" || c.name == "ReadSheet" || c.name == "ReadFolds" { // they take no sheet
+			if slices.Contains(withoutSheet, c.name) {
 				continue
 			}
 			if out := c.run(in); out[len(out)-1] != any(int64(impl.ErrInvalid)) {
@@ -248,16 +266,20 @@ func TestP1InvalidSheetsComeFirst(t *testing.T) {
 	}
 }
 
-func TestP1ResultsAreNotSheetsThatAreInvalid(t *testing.T) {
+func TestP1ResultsAreValid(t *testing.T) {
 	r := rand.New(rand.NewSource(5))
 	for range 3000 {
 		in := someInput(r)
 		for _, c := range codedCalls() {
 			out := c.run(in)
+			if out[len(out)-1] != any(int64(impl.OK)) {
+				continue
+			}
 			for _, v := range out {
-				s, ok := v.(impl.Sheet)
-				if ok && out[len(out)-1] == any(int64(impl.OK)) && !impl.ValidSheet(s) {
-					t.Fatalf("%s returned a sheet that is not valid: %+v", c.name, s)
+				s, isSheet := v.(impl.Sheet)
+				b, isBrush := v.(impl.Brush)
+				if isSheet && !impl.ValidSheet(s) || isBrush && !impl.ValidBrush(b) {
+					t.Fatalf("%s returned what is not valid: %+v", c.name, v)
 				}
 			}
 		}
