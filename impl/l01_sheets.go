@@ -206,6 +206,8 @@ func (s Sheet) validAt(at Spot) bool {
 // SameSheet reports whether two sheets are equal.
 func SameSheet(a, b Sheet) bool { return a == b }
 
+func sameSize(a, b Sheet) bool { return a.Wide == b.Wide && a.High == b.High }
+
 func checkSheet(s Sheet) error {
 	if !ValidSheet(s) {
 		return errInvalid
@@ -354,13 +356,17 @@ func DyeIn(s Sheet) ([3]int64, int64) {
 	if err := checkSheet(s); err != nil {
 		return [3]int64{}, codeOf(err)
 	}
-	var sums [3]int64
+	return s.dyes(), OK
+}
+
+func (s Sheet) dyes() [Inks]int64 {
+	var sums [Inks]int64
 	for at := range cells(s.Wide, s.High) {
 		for ink, dye := range s.Dye[at.Y][at.X] {
 			sums[ink] += int64(dye)
 		}
 	}
-	return sums, OK
+	return sums
 }
 
 // WaterIn returns the sum of all water.
@@ -421,8 +427,12 @@ func DarkestCell(s Sheet) (Spot, int64, int64) {
 	if err := checkSheet(s); err != nil {
 		return Spot{}, 0, codeOf(err)
 	}
-	at, dark, err := s.first(func(at Spot) int64 { return darkness(s.Dye[at.Y][at.X]) })
+	at, dark, err := s.darkest()
 	return at, dark, codeOf(err)
+}
+
+func (s Sheet) darkest() (Spot, int64, error) {
+	return s.first(func(at Spot) int64 { return darkness(s.Dye[at.Y][at.X]) })
 }
 
 // BlotAt returns the blot of a cell.
@@ -514,12 +524,15 @@ func PictureOf(s Sheet) (string, int64) {
 	if err := checkSheet(s); err != nil {
 		return "", codeOf(err)
 	}
-	return linesOf(s.Wide, s.High, "", func(at Spot) string {
-		if s.waxed(at) {
-			return "w"
-		}
-		return colourLetters[colourOf(s.Dye[at.Y][at.X])+1]
-	}), OK
+	return linesOf(s.Wide, s.High, "", s.letter), OK
+}
+
+// letter returns the letter of a cell in the picture of the sheet.
+func (s Sheet) letter(at Spot) string {
+	if s.waxed(at) {
+		return "w"
+	}
+	return colourLetters[colourOf(s.Dye[at.Y][at.X])+1]
 }
 
 // DifferBy returns by how much two sheets differ.
@@ -527,7 +540,7 @@ func DifferBy(a, b Sheet) (int64, int64) {
 	if !ValidSheet(a) || !ValidSheet(b) {
 		return 0, ErrInvalid
 	}
-	if a.Wide != b.Wide || a.High != b.High {
+	if !sameSize(a, b) {
 		return 0, ErrState
 	}
 	sum := int64(0)

@@ -53,7 +53,12 @@ func inked(rows ...string) impl.Sheet {
 
 // randomSheet returns a valid sheet; few of its numbers are at their limits, some of its cells are waxed.
 func randomSheet(r *rand.Rand) impl.Sheet {
-	s := impl.Sheet{Wide: int8(1 + r.Intn(impl.Side)), High: int8(1 + r.Intn(impl.Side))}
+	return sheetLike(r, impl.Sheet{Wide: int8(1 + r.Intn(impl.Side)), High: int8(1 + r.Intn(impl.Side))})
+}
+
+// sheetLike returns such a sheet with the size of another one.
+func sheetLike(r *rand.Rand, size impl.Sheet) impl.Sheet {
+	s := impl.Sheet{Wide: size.Wide, High: size.High}
 	most := []int{1, 2, 9, 300, impl.MaxDye}[r.Intn(5)]
 	bare := r.Intn(4)
 	for y := 0; y < int(s.High); y++ {
@@ -71,15 +76,6 @@ func randomSheet(r *rand.Rand) impl.Sheet {
 		}
 	}
 	return s
-}
-
-// likeSized returns a valid sheet with the size of another one.
-func likeSized(r *rand.Rand, s impl.Sheet) impl.Sheet {
-	for {
-		if b := randomSheet(r); b.Wide == s.Wide && b.High == s.High {
-			return b
-		}
-	}
 }
 
 // brokenSheet returns a sheet that is not valid, in one of the ways that the chapter names.
@@ -133,6 +129,47 @@ func waters(s impl.Sheet) string {
 		words = append(words, word)
 	}
 	return strings.Join(words, " ")
+}
+
+// pile builds a stack of sheets of one row each, from the top one down.
+func pile(t testing.TB, rows ...string) impl.Stack {
+	t.Helper()
+	var st impl.Stack
+	for _, row := range rows {
+		st = append(st, paper(t, row))
+	}
+	return st
+}
+
+// randomStack returns a valid stack with 0 to MaxSheets sheets.
+func randomStack(r *rand.Rand) impl.Stack { return stackOf(r, r.Intn(impl.MaxSheets+1)) }
+
+// stackOf returns a list of so many valid sheets with the same size.
+func stackOf(r *rand.Rand, sheets int) impl.Stack {
+	st, size := impl.Stack{}, randomSheet(r)
+	for range sheets {
+		st = append(st, sheetLike(r, size))
+	}
+	return st
+}
+
+// brokenStack returns a stack that is not valid, in one of the ways that the chapter names.
+func brokenStack(r *rand.Rand) impl.Stack {
+	st := stackOf(r, 2+r.Intn(impl.MaxSheets-1))
+	at := r.Intn(len(st))
+	switch r.Intn(3) {
+	case 0:
+		for len(st) <= impl.MaxSheets {
+			st = append(st, st...)
+		}
+	case 1:
+		st[at] = brokenSheet(r)
+	case 2:
+		for was := st[at]; st[at].Wide == was.Wide && st[at].High == was.High; {
+			st[at] = randomSheet(r)
+		}
+	}
+	return st
 }
 
 // brush keeps the tables of the tests short: a share, water, and the dyes of the first inks.

@@ -30,6 +30,10 @@ type input struct {
 	path                    []impl.Spot
 	load, part              int64
 	pathText                string
+	stack, pile             impl.Stack
+	share, passes, level    int64
+	place, rate             int64
+	stackText               string
 }
 
 type call struct {
@@ -38,11 +42,13 @@ type call struct {
 }
 
 // codedCalls has all functions that return a code, which is their last result.
-func codedCalls() []call { return slices.Concat(sheetCalls, runningCalls, foldingCalls, strokeCalls) }
+func codedCalls() []call {
+	return slices.Concat(sheetCalls, runningCalls, foldingCalls, strokeCalls, stackCalls)
+}
 
 // plainCalls has all other functions.
 func plainCalls() []call {
-	return slices.Concat(plainSheetCalls, plainRunningCalls, plainFoldingCalls, plainStrokeCalls)
+	return slices.Concat(plainSheetCalls, plainRunningCalls, plainFoldingCalls, plainStrokeCalls, plainStackCalls)
 }
 
 // wild holds numbers far beyond all limits, and those whose sums with others would overflow.
@@ -121,6 +127,12 @@ func someInput(r *rand.Rand) input {
 	in.brush, in.other = someBrush(r), someBrush(r)
 	in.path, in.pathText = somePath(r, in.a), spoilt(r, handPath(somePath(r, in.a))+" ")
 	in.load, in.part = someNumber(r, 0, impl.MaxLoad), someNumber(r, 0, 16)
+	in.stack, in.pile, in.stackText = someStack(r), someStack(r), spoilt(r, handStack(randomStack(r))+"\n")
+	in.share, in.passes, in.level = someNumber(r, 1, impl.MaxGiven), someNumber(r, 0, impl.MaxPasses), someNumber(r, 0, 3*impl.MaxDye)
+	in.place, in.rate = someNumber(r, 0, int64(len(in.stack))), someNumber(r, 1, int64(oneOf(r, 3, impl.MaxWet)))
+	if len(in.stack) > 0 && r.Intn(2) == 0 {
+		in.b = in.stack[0]
+	}
 	return in
 }
 
@@ -166,6 +178,16 @@ func scribble(out []any) {
 			for i := range l {
 				l[i] = -7
 			}
+		case [][3]int64:
+			l = l[:cap(l)]
+			for i := range l {
+				l[i] = [3]int64{-7, -7, -7}
+			}
+		case impl.Stack:
+			l = l[:cap(l)]
+			for i := range l {
+				l[i] = impl.Sheet{Wide: -7}
+			}
 		}
 	}
 }
@@ -202,8 +224,11 @@ func TestP1ArgumentsStayAsTheyAre(t *testing.T) {
 		// The room behind a slice belongs to the caller as well.
 		in.folds, kept.folds = in.folds[:cap(in.folds)], slices.Clone(in.folds[:cap(in.folds)])
 		in.path, kept.path = in.path[:cap(in.path)], slices.Clone(in.path[:cap(in.path)])
+		in.stack, kept.stack = in.stack[:cap(in.stack)], slices.Clone(in.stack[:cap(in.stack)])
+		in.pile, kept.pile = in.pile[:cap(in.pile)], slices.Clone(in.pile[:cap(in.pile)])
 		short := in
 		short.folds, short.path = in.folds[:len(in.folds)/2], in.path[:len(in.path)/2]
+		short.stack, short.pile = in.stack[:len(in.stack)/2], in.pile[:len(in.pile)/2]
 		for _, c := range slices.Concat(codedCalls(), plainCalls()) {
 			c.run(in)
 			c.run(short)
@@ -241,7 +266,7 @@ func TestP1ErrorsHaveNothingBesides(t *testing.T) {
 }
 
 // withoutSheet has the functions with a code that take no sheet.
-var withoutSheet = []string{"PlainSheet", "ReadSheet", "ReadFolds", "DipBrush", "MixBrushes", "RinseBrush", "ReadPath"}
+var withoutSheet = []string{"PlainSheet", "ReadSheet", "ReadFolds", "DipBrush", "MixBrushes", "RinseBrush", "ReadPath", "ReadStack"}
 
 func TestP1InvalidSheetsComeFirst(t *testing.T) {
 	r := rand.New(rand.NewSource(4))
@@ -249,7 +274,7 @@ func TestP1InvalidSheetsComeFirst(t *testing.T) {
 		in := someInput(r)
 		in.a, in.b = brokenSheet(r), randomSheet(r)
 		for _, c := range codedCalls() {
-			if slices.Contains(withoutSheet, c.name) {
+			if slices.Contains(withoutSheet, c.name) || slices.Contains(withStack, c.name) {
 				continue
 			}
 			if out := c.run(in); out[len(out)-1] != any(int64(impl.ErrInvalid)) {
@@ -278,7 +303,8 @@ func TestP1ResultsAreValid(t *testing.T) {
 			for _, v := range out {
 				s, isSheet := v.(impl.Sheet)
 				b, isBrush := v.(impl.Brush)
-				if isSheet && !impl.ValidSheet(s) || isBrush && !impl.ValidBrush(b) {
+				st, isStack := v.(impl.Stack)
+				if isSheet && !impl.ValidSheet(s) || isBrush && !impl.ValidBrush(b) || isStack && !impl.ValidStack(st) {
 					t.Fatalf("%s returned what is not valid: %+v", c.name, v)
 				}
 			}

@@ -261,7 +261,7 @@ func TestP2DifferByOfManySheets(t *testing.T) {
 	r := rand.New(rand.NewSource(21))
 	for range 300 {
 		a := randomSheet(r)
-		b, want := likeSized(r, a), int64(0)
+		b, want := sheetLike(r, a), int64(0)
 		for y := range 8 {
 			for x := range 8 {
 				for ink := range 3 {

@@ -32,7 +32,7 @@ func TestP6BlotsOfManySheets(t *testing.T) {
 	r := rand.New(rand.NewSource(101))
 	for range 400 {
 		a := randomSheet(r)
-		b, press := likeSized(r, a), int64(1+r.Intn(8))
+		b, press := sheetLike(r, a), int64(1+r.Intn(8))
 		onA, onB, sum := a, b, int64(0)
 		for rounds := int64(0); rounds <= impl.MaxFolds; rounds++ {
 			gotA, gotB, gone, code := impl.BlotRounds(a, b, press, rounds)
