@@ -34,6 +34,14 @@ type input struct {
 	share, passes, level    int64
 	place, rate             int64
 	stackText               string
+	cells                   []impl.Spot
+	steps                   int64
+	marks                   []impl.Mark
+	order                   []int64
+	picture                 []string
+	under, over             int64
+	mark                    impl.Mark
+	markText                string
 }
 
 type call struct {
@@ -43,12 +51,12 @@ type call struct {
 
 // codedCalls has all functions that return a code, which is their last result.
 func codedCalls() []call {
-	return slices.Concat(sheetCalls, runningCalls, foldingCalls, strokeCalls, stackCalls)
+	return slices.Concat(sheetCalls, runningCalls, foldingCalls, strokeCalls, stackCalls, originCalls)
 }
 
 // plainCalls has all other functions.
 func plainCalls() []call {
-	return slices.Concat(plainSheetCalls, plainRunningCalls, plainFoldingCalls, plainStrokeCalls, plainStackCalls)
+	return slices.Concat(plainSheetCalls, plainRunningCalls, plainFoldingCalls, plainStrokeCalls, plainStackCalls, plainOriginCalls)
 }
 
 // wild holds numbers far beyond all limits, and those whose sums with others would overflow.
@@ -91,7 +99,7 @@ func spoilt(r *rand.Rand, whole string) string {
 		i := r.Intn(len(text))
 		switch r.Intn(3) {
 		case 0:
-			text[i] = "0123456789:, \nw-+xvh/nes"[r.Intn(24)]
+			text[i] = "0123456789:, \nw-+xvh/nesabcdm"[r.Intn(29)]
 		case 1:
 			text = append(text[:i], text[i+1:]...)
 		case 2:
@@ -133,6 +141,11 @@ func someInput(r *rand.Rand) input {
 	if len(in.stack) > 0 && r.Intn(2) == 0 {
 		in.b = in.stack[0]
 	}
+	in.cells, in.steps = someCells(r, in.a), someNumber(r, 0, 16)
+	in.marks = someMarks(r, in.a)
+	in.order, in.picture = someOrder(r, len(in.marks)), somePicture(r, in.a, in.marks)
+	in.under, in.over = someNumber(r, 0, int64(len(in.marks))), someNumber(r, 0, int64(len(in.marks)))
+	in.mark, in.markText = someMark(r, in.a), spoilt(r, handMark(someMark(r, in.a))+" ")
 	return in
 }
 
@@ -188,6 +201,13 @@ func scribble(out []any) {
 			for i := range l {
 				l[i] = impl.Sheet{Wide: -7}
 			}
+		case []string:
+			l = l[:cap(l)]
+			for i := range l {
+				l[i] = "x"
+			}
+		case impl.Mark:
+			scribble(list(l.Cells))
 		}
 	}
 }
@@ -226,9 +246,17 @@ func TestP1ArgumentsStayAsTheyAre(t *testing.T) {
 		in.path, kept.path = in.path[:cap(in.path)], slices.Clone(in.path[:cap(in.path)])
 		in.stack, kept.stack = in.stack[:cap(in.stack)], slices.Clone(in.stack[:cap(in.stack)])
 		in.pile, kept.pile = in.pile[:cap(in.pile)], slices.Clone(in.pile[:cap(in.pile)])
+		in.cells, kept.cells = in.cells[:cap(in.cells)], slices.Clone(in.cells[:cap(in.cells)])
+		in.order, kept.order = in.order[:cap(in.order)], slices.Clone(in.order[:cap(in.order)])
+		in.picture, kept.picture = in.picture[:cap(in.picture)], slices.Clone(in.picture[:cap(in.picture)])
+		in.mark, kept.mark = wholeMark(in.mark), cloneMark(in.mark)
+		in.marks, kept.marks = wholeMarks(in.marks), cloneMarks(in.marks)
 		short := in
 		short.folds, short.path = in.folds[:len(in.folds)/2], in.path[:len(in.path)/2]
 		short.stack, short.pile = in.stack[:len(in.stack)/2], in.pile[:len(in.pile)/2]
+		short.cells, short.order = in.cells[:len(in.cells)/2], in.order[:len(in.order)/2]
+		short.picture, short.marks = in.picture[:len(in.picture)/2], in.marks[:len(in.marks)/2]
+		short.mark.Cells = in.mark.Cells[:len(in.mark.Cells)/2]
 		for _, c := range slices.Concat(codedCalls(), plainCalls()) {
 			c.run(in)
 			c.run(short)
@@ -266,7 +294,7 @@ func TestP1ErrorsHaveNothingBesides(t *testing.T) {
 }
 
 // withoutSheet has the functions with a code that take no sheet.
-var withoutSheet = []string{"PlainSheet", "ReadSheet", "ReadFolds", "DipBrush", "MixBrushes", "RinseBrush", "ReadPath", "ReadStack"}
+var withoutSheet = []string{"PlainSheet", "ReadSheet", "ReadFolds", "DipBrush", "MixBrushes", "RinseBrush", "ReadPath", "ReadStack", "ReadMark"}
 
 func TestP1InvalidSheetsComeFirst(t *testing.T) {
 	r := rand.New(rand.NewSource(4))

@@ -161,7 +161,7 @@ func TestP1NoGoroutineIsLeft(t *testing.T) {
 	before := runtime.NumGoroutine()
 	for range 200 {
 		in := someInput(r)
-		for _, c := range stackCalls {
+		for _, c := range slices.Concat(stackCalls, originCalls) {
 			c.run(in)
 		}
 	}
