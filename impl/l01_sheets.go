@@ -132,10 +132,18 @@ func sides() [4]func(Spot) Spot {
 	return [4]func(Spot) Spot{Spot.north, Spot.east, Spot.south, Spot.west}
 }
 
-// has reports whether a spot is a cell of the sheet.
-func (s Sheet) has(at Spot) bool {
-	return at.X >= 0 && at.X < s.Wide && at.Y >= 0 && at.Y < s.High
+// isSize reports whether a sheet may have so many columns and rows.
+func isSize(wide, high int64) bool {
+	return wide >= 1 && wide <= Side && high >= 1 && high <= Side
 }
+
+// inside reports whether a spot is one of so many columns and rows.
+func inside(wide, high int8, at Spot) bool {
+	return at.X >= 0 && at.X < wide && at.Y >= 0 && at.Y < high
+}
+
+// has reports whether a spot is a cell of the sheet.
+func (s Sheet) has(at Spot) bool { return inside(s.Wide, s.High, at) }
 
 // waxed reports whether a place is waxed.
 func (s Sheet) waxed(at Spot) bool {
@@ -175,7 +183,7 @@ func gaps(dyes, others [Inks]int16) [Inks]int16 {
 
 // ValidSheet reports whether s is valid.
 func ValidSheet(s Sheet) bool {
-	if s.Wide < 1 || s.Wide > Side || s.High < 1 || s.High > Side {
+	if !isSize(int64(s.Wide), int64(s.High)) {
 		return false
 	}
 	for at := range cells(Side, Side) {
@@ -294,7 +302,7 @@ func checkDrop(s Sheet, at Spot, ink, amount, water int64) error {
 
 // PlainSheet returns a sheet without water, ink and wax.
 func PlainSheet(wide, high int64) (Sheet, int64) {
-	if wide < 1 || wide > Side || high < 1 || high > Side {
+	if !isSize(wide, high) {
 		return Sheet{}, ErrRange
 	}
 	return Sheet{Wide: int8(wide), High: int8(high)}, OK
@@ -397,16 +405,19 @@ func (s Sheet) darkCells(least int64) []Spot {
 	return s.chosen(func(at Spot) bool { return darkness(s.Dye[at.Y][at.X]) >= least })
 }
 
-// chosen returns the cells that fit, ordered.
-func (s Sheet) chosen(fits func(at Spot) bool) []Spot {
+// spotsThat returns the spots of so many columns and rows that fit, ordered.
+func spotsThat(wide, high int8, fits func(at Spot) bool) []Spot {
 	var list []Spot
-	for at := range cells(s.Wide, s.High) {
+	for at := range cells(wide, high) {
 		if fits(at) {
 			list = append(list, at)
 		}
 	}
 	return list
 }
+
+// chosen returns the cells that fit, ordered.
+func (s Sheet) chosen(fits func(at Spot) bool) []Spot { return spotsThat(s.Wide, s.High, fits) }
 
 // first returns the first cell with the greatest number, and this; errNotFound if none is greater than 0.
 func (s Sheet) first(number func(at Spot) int64) (Spot, int64, error) {
@@ -654,12 +665,21 @@ func readRows(text string) (Sheet, error) {
 	return s, nil
 }
 
-// wordsOf returns the words of the lines of a text: 1 to Side lines, and as many words in each one.
-func wordsOf(text string) ([][]string, error) {
+// linesIn returns the lines of a text, 1 to Side of them, each one of which ends with a newline.
+func linesIn(text string) ([]string, error) {
 	body, ended := strings.CutSuffix(text, "\n")
 	lines := strings.SplitN(body, "\n", Side+1)
 	if !ended || len(lines) > Side {
 		return nil, errSyntax
+	}
+	return lines, nil
+}
+
+// wordsOf returns the words of the lines of a text: 1 to Side lines, and as many words in each one.
+func wordsOf(text string) ([][]string, error) {
+	lines, err := linesIn(text)
+	if err != nil {
+		return nil, err
 	}
 	var rows [][]string
 	for _, line := range lines {

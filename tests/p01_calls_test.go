@@ -42,6 +42,14 @@ type input struct {
 	under, over             int64
 	mark                    impl.Mark
 	markText                string
+	art, scene              impl.Picture
+	drop                    impl.Drop
+	drops                   []impl.Drop
+	budget                  int64
+	stencils                [3][8]uint8
+	want                    [3]int64
+	parts                   int64
+	artText, packed         string
 }
 
 type call struct {
@@ -51,12 +59,12 @@ type call struct {
 
 // codedCalls has all functions that return a code, which is their last result.
 func codedCalls() []call {
-	return slices.Concat(sheetCalls, runningCalls, foldingCalls, strokeCalls, stackCalls, originCalls)
+	return slices.Concat(sheetCalls, runningCalls, foldingCalls, strokeCalls, stackCalls, originCalls, pictureCalls)
 }
 
 // plainCalls has all other functions.
 func plainCalls() []call {
-	return slices.Concat(plainSheetCalls, plainRunningCalls, plainFoldingCalls, plainStrokeCalls, plainStackCalls, plainOriginCalls)
+	return slices.Concat(plainSheetCalls, plainRunningCalls, plainFoldingCalls, plainStrokeCalls, plainStackCalls, plainOriginCalls, plainPictureCalls)
 }
 
 // wild holds numbers far beyond all limits, and those whose sums with others would overflow.
@@ -146,6 +154,7 @@ func someInput(r *rand.Rand) input {
 	in.order, in.picture = someOrder(r, len(in.marks)), somePicture(r, in.a, in.marks)
 	in.under, in.over = someNumber(r, 0, int64(len(in.marks))), someNumber(r, 0, int64(len(in.marks)))
 	in.mark, in.markText = someMark(r, in.a), spoilt(r, handMark(someMark(r, in.a))+" ")
+	in.addPictures(r)
 	return in
 }
 
@@ -206,6 +215,11 @@ func scribble(out []any) {
 			for i := range l {
 				l[i] = "x"
 			}
+		case []impl.Drop:
+			l = l[:cap(l)]
+			for i := range l {
+				l[i] = impl.Drop{At: spot(-7, -7), Ink: 7}
+			}
 		case impl.Mark:
 			scribble(list(l.Cells))
 		}
@@ -251,12 +265,13 @@ func TestP1ArgumentsStayAsTheyAre(t *testing.T) {
 		in.picture, kept.picture = in.picture[:cap(in.picture)], slices.Clone(in.picture[:cap(in.picture)])
 		in.mark, kept.mark = wholeMark(in.mark), cloneMark(in.mark)
 		in.marks, kept.marks = wholeMarks(in.marks), cloneMarks(in.marks)
+		in.drops, kept.drops = in.drops[:cap(in.drops)], slices.Clone(in.drops[:cap(in.drops)])
 		short := in
 		short.folds, short.path = in.folds[:len(in.folds)/2], in.path[:len(in.path)/2]
 		short.stack, short.pile = in.stack[:len(in.stack)/2], in.pile[:len(in.pile)/2]
 		short.cells, short.order = in.cells[:len(in.cells)/2], in.order[:len(in.order)/2]
 		short.picture, short.marks = in.picture[:len(in.picture)/2], in.marks[:len(in.marks)/2]
-		short.mark.Cells = in.mark.Cells[:len(in.mark.Cells)/2]
+		short.mark.Cells, short.drops = in.mark.Cells[:len(in.mark.Cells)/2], in.drops[:len(in.drops)/2]
 		for _, c := range slices.Concat(codedCalls(), plainCalls()) {
 			c.run(in)
 			c.run(short)
@@ -302,7 +317,7 @@ func TestP1InvalidSheetsComeFirst(t *testing.T) {
 		in := someInput(r)
 		in.a, in.b = brokenSheet(r), randomSheet(r)
 		for _, c := range codedCalls() {
-			if slices.Contains(withoutSheet, c.name) || slices.Contains(withStack, c.name) {
+			if slices.Contains(withoutSheet, c.name) || slices.Contains(withStack, c.name) || isPictureCall(c) {
 				continue
 			}
 			if out := c.run(in); out[len(out)-1] != any(int64(impl.ErrInvalid)) {
@@ -332,7 +347,8 @@ func TestP1ResultsAreValid(t *testing.T) {
 				s, isSheet := v.(impl.Sheet)
 				b, isBrush := v.(impl.Brush)
 				st, isStack := v.(impl.Stack)
-				if isSheet && !impl.ValidSheet(s) || isBrush && !impl.ValidBrush(b) || isStack && !impl.ValidStack(st) {
+				p, isPicture := v.(impl.Picture)
+				if isSheet && !impl.ValidSheet(s) || isBrush && !impl.ValidBrush(b) || isStack && !impl.ValidStack(st) || isPicture && !impl.ValidPicture(p) {
 					t.Fatalf("%s returned what is not valid: %+v", c.name, v)
 				}
 			}
